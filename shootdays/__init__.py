@@ -1,0 +1,1 @@
+"""Shootdays: a picture's scenes laid on days."""
