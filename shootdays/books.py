@@ -11,9 +11,20 @@ MOST_SCENES = 8
 LONGEST_RUN = 8
 LIGHT_WORDS = ("sun", "moon", "any")
 
+# Where the parts of a book stand.
+CREW = 0
+MOVE = 1
+DAYS = 2
 PLACES = 3
 PLAYERS = 4
 SCENES = 5
+
+# Where the parts of a scene stand.
+NAME = 0
+PLACE = 1
+LENGTH = 2
+WORD = 3
+CAST = 4
 
 
 def is_row(value, size):
@@ -167,3 +178,18 @@ def player_at(book, name):
 def scene_at(book, name):
     """The number of the scene of this name, or None."""
     return number_at(book[SCENES], name)
+
+
+def place_named(book, name):
+    """The place of this name, which the book has."""
+    return book[PLACES][place_at(book, name)]
+
+
+def player_named(book, name):
+    """The player of this name, whom the book has."""
+    return book[PLAYERS][player_at(book, name)]
+
+
+def scene_named(book, name):
+    """The scene of this name, which the book has."""
+    return book[SCENES][scene_at(book, name)]
