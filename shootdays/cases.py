@@ -13,6 +13,11 @@ def laid(case, scene, day):
     return case[:scene] + (day,) + case[scene + 1:]
 
 
+def not_laid(case):
+    """The numbers of the scenes that aren't laid, rising."""
+    return tuple(scene for scene, day in enumerate(case) if day is None)
+
+
 def on_day(book, case, day):
     """The names of the scenes that are laid on the day, in the book's order."""
     return tuple(scene[NAME] for scene, own_day in zip(book[SCENES], case) if own_day == day)

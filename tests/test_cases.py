@@ -2,7 +2,7 @@ import itertools
 import unittest
 
 from shootdays.books import book_of
-from shootdays.cases import called, laid, no_case, on_day
+from shootdays.cases import called, laid, no_case, not_laid, on_day
 from tests.helper import all_cases, random_book
 
 BOOK = book_of(
@@ -61,6 +61,14 @@ class LaidTest(unittest.TestCase):
         laid(case, 1, 3)
         laid(case, 0, 0)
         self.assertEqual(case, (1, None, 2, 0, None))
+
+
+class NotLaidTest(unittest.TestCase):
+    def test_the_numbers_of_scenes_without_a_day(self):
+        self.assertEqual(not_laid(no_case(BOOK)), (0, 1, 2, 3, 4))
+        self.assertEqual(not_laid((0, None, 3, 0, None)), (1, 4))
+        self.assertEqual(not_laid((0, 0, 0, 0, 0)), ())
+        self.assertEqual(not_laid(()), ())
 
 
 class OnDayTest(unittest.TestCase):

@@ -4,7 +4,7 @@ import unittest
 from shootdays.books import book_of
 from shootdays.cases import laid, no_case
 from shootdays.rules import Away, Full, Rule, Shut, Tired, blocked, rules
-from tests.helper import all_cases, fits, random_book, random_case
+from tests.helper import all_cases, random_book, random_case, reasons
 
 CLASSES = [Shut, Away, Full, Tired]
 
@@ -15,24 +15,6 @@ def made(days=((9, 9),) * 4, places=(("attic", 0, ()), ("harbour", 0, ())), play
 
 def scene(name, cast=(), place="attic", length=1, word="any"):
     return (name, place, length, word, cast)
-
-
-def reasons(book, case):
-    """What each rule tells, by the document's words."""
-    days = range(len(book[2]))
-    shut = {place[0]: place[2] for place in book[3]}
-    first = [("shut", row[0], day) for row, day in zip(book[5], case) if day is not None and day in shut[row[1]]]
-    calls = {row[0]: {day for day, other in zip(case, book[5]) if day is not None and row[0] in other[4]}
-             for row in book[4]}
-    second = [("away", row[0], day) for row in book[4] for day in days if day in calls[row[0]] and day in row[4]]
-    third = [("full", day) for day in days
-             if not fits(book, day, [row[0] for row, own in zip(book[5], case) if own == day])]
-    fourth = []
-    for name, _, _, run, _ in book[4]:
-        for day in days:
-            if day >= run and all(day - back in calls[name] for back in range(run + 1)):
-                fourth.append(("tired", name, day))
-    return [found[0] if found else None for found in (first, second, third, fourth)]
 
 
 class FormTest(unittest.TestCase):
