@@ -165,6 +165,11 @@ def book_of(crew, move, days, places, players, scenes):
     return (crew, move, own_days, own_places, own_players, own_scenes)
 
 
+def all_days(book):
+    """The days of the book, by their numbers."""
+    return tuple(range(len(book[DAYS])))
+
+
 def place_at(book, name):
     """The number of the place of this name, or None."""
     return number_at(book[PLACES], name)

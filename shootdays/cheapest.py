@@ -1,6 +1,6 @@
 """The cheapest plan of a book, or between what it costs."""
 
-from shootdays.books import DAYS
+from shootdays.books import all_days
 from shootdays.bounds import bound
 from shootdays.cases import no_case
 from shootdays.costs import cost
@@ -22,7 +22,7 @@ def between(book):
 def cheapest(book):
     """("cheapest", cost, plan, paper), ("none", paper), or ("between", low, high) where there are too many cases."""
     try:
-        told = best(book, no_case(book), tuple(range(len(book[DAYS]))))
+        told = best(book, no_case(book), all_days(book))
     except TooWide:
         return between(book)
     if told[0] == "none":

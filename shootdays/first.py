@@ -1,13 +1,13 @@
 """The first fit: a case found fast, that may not be the cheapest."""
 
-from shootdays.books import DAYS
+from shootdays.books import all_days
 from shootdays.cases import laid, no_case
 from shootdays.rules import blocked
 
 
 def laid_first(book, case, scene):
     """The case with the scene laid on the first day on which the case isn't blocked then, or None."""
-    for day in range(len(book[DAYS])):
+    for day in all_days(book):
         tried = laid(case, scene, day)
         if blocked(book, tried) is None:
             return tried

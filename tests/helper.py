@@ -37,6 +37,12 @@ def random_book(seed, days=3, places=2, players=2, scenes=4, most=12):
     return book_of(chance.randint(0, 99), chance.randint(0, 3), day_rows, place_rows, player_rows, scene_rows)
 
 
+def plain_book(lengths, days, hours=9, crew=5, rent=3, shut=()):
+    """A book of one place, without players, with so many days and any scenes of these lengths, called a, b and so on."""
+    rows = [(name, "attic", length, "any", ()) for name, length in zip("abcdefgh", lengths)]
+    return book_of(crew, 1, [(hours, 0)] * days, [("attic", rent, shut)], [], rows)
+
+
 def random_case(book, seed, odds=0.7):
     """A case of the book, each scene laid with the odds."""
     chance = random.Random(seed)

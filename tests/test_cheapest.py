@@ -9,13 +9,14 @@ from shootdays.first import first_fit
 from shootdays.looker import is_paper
 from shootdays.plans import case_of, fault_of
 from tests.helper import (
-    bound_in, cost_in, full_cases, has_slip, kinds_in, least_cost, random_book, reason_of, wrong_in_paper,
+    bound_in, cost_in, full_cases, has_slip, kinds_in, least_cost, plain_book, random_book, reason_of,
+    wrong_in_paper,
 )
 
 
-def plain(scenes, days, lengths=1, hours=9, shut=()):
-    rows = [(name, "attic", lengths, "any", ()) for name in "abcdefgh"[:scenes]]
-    return book_of(5, 1, [(hours, 0)] * days, [("attic", 3, shut)], [], rows)
+def plain(scenes, days, lengths=1, **more):
+    """A plain book of so many scenes, all of one length."""
+    return plain_book([lengths] * scenes, days, **more)
 
 
 class CheapestTest(unittest.TestCase):

@@ -135,6 +135,26 @@ class FormTest(unittest.TestCase):
                         barred = (ast.Call, ast.ListComp, ast.DictComp, ast.SetComp, ast.Set, ast.Lambda)
                         self.assertEqual(nodes(node, *barred), [])
 
+    def test_values_at_module_level_name_what_stands_above_them_in_the_file(self):
+        for name, tree in trees():
+            above = set()
+            for node in tree.body:
+                if isinstance(node, (ast.FunctionDef, ast.ClassDef)):
+                    above.add(node.name)
+                elif isinstance(node, ast.Assign):
+                    with self.subTest(file=name, line=node.lineno):
+                        self.assertLessEqual({word.id for word in nodes(node.value, ast.Name)}, above)
+                        self.assertNotIn(node.targets[0].id, above)
+                    above.add(node.targets[0].id)
+
+    def test_no_name_is_a_method_here_and_an_attribute_there(self):
+        methods, attributes = set(), set()
+        for _, tree in trees():
+            for made in nodes(tree, ast.ClassDef):
+                methods |= {node.name for node in nodes(made, ast.FunctionDef)}
+                attributes |= {node.attr for node in nodes(made, ast.Attribute) if isinstance(node.ctx, ast.Store)}
+        self.assertEqual(sorted(methods & attributes), [])
+
     def test_no_two_files_import_from_each_other(self):
         ahead = {name: {node.module.partition(".")[2] + ".py" for node in nodes(tree, ast.ImportFrom)}
                  for name, tree in trees()}

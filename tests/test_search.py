@@ -7,14 +7,14 @@ from shootdays.errors import TooWide
 from shootdays.looker import is_paper
 from shootdays.search import best
 from tests.helper import (
-    cost_in, full_cases, kinds_in, least_cost, random_book, random_case, reason_of, some_days, wrong_in_paper,
+    cost_in, full_cases, kinds_in, least_cost, plain_book, random_book, random_case, reason_of, some_days,
+    wrong_in_paper,
 )
 
 
-def plain(scenes, days, lengths=1, hours=9, crew=5, rent=3):
-    """A book of one place, without players, whose scenes are all any."""
-    rows = [(name, "attic", lengths, "any", ()) for name in "abcdefgh"[:scenes]]
-    return book_of(crew, 1, [(hours, 0)] * days, [("attic", rent, ())], [], rows)
+def plain(scenes, days, lengths=1, **more):
+    """A plain book of so many scenes, all of one length."""
+    return plain_book([lengths] * scenes, days, **more)
 
 
 class BestTest(unittest.TestCase):
